@@ -1,0 +1,1 @@
+"""Lamps: texts sent by a table of signs, long and short."""

@@ -1,0 +1,98 @@
+"""The calls of Lamps. Each stands by itself: it takes numbers and lists, and gives back a list."""
+
+TOO_LONG = -2
+NO_TABLE = -6
+
+MOST_TABLE_BYTES = 65536
+MOST_LETTERS = 64
+MOST_SIGNS = 8
+
+LEAST_LETTER = 33
+GREATEST_LETTER = 126
+LINE_END = 10
+BLANK = 32
+LONG = 45
+SHORT = 46
+
+NO_FAULT = 0
+NOT_A_LINE = 1
+LETTER_NOT_ABOVE = 2
+PATTERN_STANDS_BEFORE = 3
+
+
+def split_lines(t):
+    """The lines of t, each with its byte 10; bytes behind the last byte 10 are a line without one."""
+    lines = []
+    line = []
+    for byte in t:
+        line.append(byte)
+        if byte == LINE_END:
+            lines.append(line)
+            line = []
+    if len(line) > 0:
+        lines.append(line)
+    return lines
+
+
+def is_pattern(signs):
+    """Whether signs are 1 to 8 bytes, each a short or a long."""
+    if len(signs) < 1 or len(signs) > MOST_SIGNS:
+        return False
+    for sign in signs:
+        if sign != SHORT and sign != LONG:
+            return False
+    return True
+
+
+def is_table_line(line):
+    """Whether line is a letter, a blank, a pattern and the byte 10."""
+    last = len(line) - 1
+    if last < 2:
+        return False
+    if line[0] < LEAST_LETTER or line[0] > GREATEST_LETTER:
+        return False
+    if line[1] != BLANK or line[last] != LINE_END:
+        return False
+    return is_pattern(line[2:last])
+
+
+def stands_before(lines, number):
+    """Whether the pattern of that line is the pattern of a line before it."""
+    for earlier in lines[:number]:
+        # Behind the letter, table lines differ in nothing but their patterns.
+        if earlier[1:] == lines[number][1:]:
+            return True
+    return False
+
+
+def line_fault(lines, number):
+    """The kind of fault of that line, where all lines before it are as they must be."""
+    if number >= MOST_LETTERS or not is_table_line(lines[number]):
+        return NOT_A_LINE
+    if number > 0 and lines[number][0] <= lines[number - 1][0]:
+        return LETTER_NOT_ABOVE
+    if stands_before(lines, number):
+        return PATTERN_STANDS_BEFORE
+    return NO_FAULT
+
+
+def table_fault(lines):
+    """The kind and the number of the first line that is not as it must be; an empty list if all are."""
+    if len(lines) == 0:
+        return [NOT_A_LINE, 0]
+    for number in range(len(lines)):
+        kind = line_fault(lines, number)
+        if kind != NO_FAULT:
+            return [kind, number]
+    return []
+
+
+def judge(t):
+    """How many letters the table of the text t has; or -2; or -6, and then the kind and the line."""
+    if len(t) > MOST_TABLE_BYTES:
+        return [TOO_LONG]
+    lines = split_lines(t)
+    fault = table_fault(lines)
+    if len(fault) > 0:
+        return [NO_TABLE] + fault
+    return [len(lines)]
