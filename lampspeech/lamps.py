@@ -1,6 +1,7 @@
 """The calls of Lamps. Each stands by itself: it takes numbers and lists, and gives back a list."""
 
 TOO_LONG = -2
+NO_SUCH = -4
 NO_TABLE = -6
 
 MOST_TABLE_BYTES = 65536
@@ -18,6 +19,9 @@ NO_FAULT = 0
 NOT_A_LINE = 1
 LETTER_NOT_ABOVE = 2
 PATTERN_STANDS_BEFORE = 3
+
+SHORT_LIGHT = 1
+LONG_LIGHT = 3
 
 
 def split_lines(t):
@@ -96,3 +100,38 @@ def judge(t):
     if len(fault) > 0:
         return [NO_TABLE] + fault
     return [len(lines)]
+
+
+def pattern_lights(signs):
+    """How many units each light of a pattern has."""
+    return [LONG_LIGHT if sign == LONG else SHORT_LIGHT for sign in signs]
+
+
+def table_lights(t):
+    """For each letter of the table whose text is t, the lights of its pattern."""
+    lights = {}
+    for line in split_lines(t):
+        lights[line[0]] = pattern_lights(line[2:-1])
+    return lights
+
+
+def long_bits(lights):
+    """The number whose bit i is 1 if light i is a long one."""
+    bits = 0
+    weight = 1
+    for light in lights:
+        if light == LONG_LIGHT:
+            bits += weight
+        weight *= 2
+    return bits
+
+
+def pattern(c, t):
+    """0, how many signs the pattern of letter c has, and the number of its longs' bits; or -2, -6 or -4."""
+    judged = judge(t)[0]
+    if judged < 0:
+        return [judged]
+    table = table_lights(t)
+    if c not in table:
+        return [NO_SUCH]
+    return [0, len(table[c]), long_bits(table[c])]

@@ -4,25 +4,11 @@ import itertools
 import re
 import unittest
 
+from helper import assert_kept, table_lines, text
 from lampspeech.lamps import judge
 
 ANY_LINE = re.compile(rb"[^\n]*\n|[^\n]+")
 TABLE_LINE = re.compile(rb"([!-~]) ([.-]{1,8})\n")
-
-
-def text(*lines):
-    """The text of these lines, each with its byte 10."""
-    return list("".join(line + "\n" for line in lines).encode("ascii"))
-
-
-def patterns(count):
-    """That many different patterns, of 7 signs each."""
-    return ["".join(signs) for signs in itertools.islice(itertools.product(".-", repeat=7), count)]
-
-
-def table_lines(count):
-    """The lines of a table of that many letters, from the letter 33 on."""
-    return [chr(33 + number) + " " + signs for number, signs in enumerate(patterns(count))]
 
 
 def judged_otherwise(t):
@@ -280,26 +266,7 @@ class HandedIn(unittest.TestCase):
             ([65] * 70000, [-2]),
         )
         for t, answer in cases + cases[::-1]:
-            before = list(t)
-            first = judge(t)
-            self.assertEqual(first, answer)
-            self.assertEqual(t, before)
-            first.append(99)
-            self.assertEqual(judge(t), answer)
-            self.assertEqual(t, before)
-
-    def test_not_for_a_while_either(self):
-        class Watched(list):
-            """A list that fails as soon as it is changed."""
-
-            def refuse(self, *given):
-                raise AssertionError("what was handed in was changed")
-
-            append = clear = extend = insert = pop = remove = reverse = sort = refuse
-            __setitem__ = __delitem__ = __iadd__ = __imul__ = refuse
-
-        for t in (text("A .-", "B -..."), text("A .", "B ."), text("A ."), [], [65] * 70000):
-            self.assertEqual(judge(Watched(t)), judge(t))
+            assert_kept(self, judge, [t], answer)
 
 
 if __name__ == "__main__":
