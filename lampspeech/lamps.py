@@ -1,5 +1,6 @@
 """The calls of Lamps. Each stands by itself: it takes numbers and lists, and gives back a list."""
 
+NOT_GRANTED = -1
 TOO_LONG = -2
 NO_SUCH = -4
 NO_TABLE = -6
@@ -7,6 +8,8 @@ NO_TABLE = -6
 MOST_TABLE_BYTES = 65536
 MOST_LETTERS = 64
 MOST_SIGNS = 8
+MOST_MESSAGE_BYTES = 1024
+GREATEST_UNIT = 134217728
 
 LEAST_LETTER = 33
 GREATEST_LETTER = 126
@@ -22,6 +25,9 @@ PATTERN_STANDS_BEFORE = 3
 
 SHORT_LIGHT = 1
 LONG_LIGHT = 3
+SIGN_DARK = 1
+LETTER_DARK = 3
+WORD_DARK = 7
 
 
 def split_lines(t):
@@ -135,3 +141,47 @@ def pattern(c, t):
     if c not in table:
         return [NO_SUCH]
     return [0, len(table[c]), long_bits(table[c])]
+
+
+def is_message(table, s):
+    """Whether s is 1 to 1,024 bytes: letters of the table, and blanks that stand between two letters each."""
+    if len(s) > MOST_MESSAGE_BYTES:
+        return False
+    # As if a blank stood ahead of s: so a blank at its front is the second side by side, and an empty s ends with one.
+    before = BLANK
+    for byte in s:
+        if byte == BLANK and before == BLANK:
+            return False
+        if byte != BLANK and byte not in table:
+            return False
+        before = byte
+    return before != BLANK
+
+
+def sent_counts(table, s):
+    """How many units each light and dark has that is sent of the message s."""
+    counts = []
+    dark = SIGN_DARK
+    for byte in s:
+        if byte == BLANK:
+            dark = WORD_DARK
+            continue
+        for light in table[byte]:
+            counts.append(dark)
+            counts.append(light)
+            dark = SIGN_DARK
+        dark = LETTER_DARK
+    # No dark is sent ahead of the first light.
+    return counts[1:]
+
+
+def send(unit, t, s):
+    """How many times an exact hand with that unit sends of s, then they; or -2, -6 or -1."""
+    judged = judge(t)[0]
+    if judged < 0:
+        return [judged]
+    table = table_lights(t)
+    if unit < 1 or unit > GREATEST_UNIT or not is_message(table, s):
+        return [NOT_GRANTED]
+    counts = sent_counts(table, s)
+    return [len(counts)] + [count * unit for count in counts]

@@ -18,6 +18,25 @@ def table_lines(count):
     return [chr(33 + number) + " " + signs for number, signs in enumerate(patterns(count))]
 
 
+def drawn_table(draw):
+    """The text of a table drawn at random, of 1 to 64 letters."""
+    count = draw.choice((1, 2, 3, 10, 26, 64))
+    letters = sorted(draw.sample(range(33, 127), count))
+    longest = draw.randint(min(size for size in range(1, 9) if 2 ** (size + 1) - 2 >= count), 8)
+    all_signs = ["".join(signs) for size in range(1, longest + 1) for signs in itertools.product(".-", repeat=size)]
+    return text(*[chr(letter) + " " + signs for letter, signs in zip(letters, draw.sample(all_signs, count))])
+
+
+def drawn_message(draw, t, count):
+    """A message of so many bytes drawn at random, of letters of the table whose text is t."""
+    letters = [line[0] for line in bytes(t).splitlines()]
+    message = []
+    for place in range(count):
+        inner = 0 < place < count - 1 and message[-1] != 32
+        message.append(32 if inner and draw.random() < 0.2 else draw.choice(letters))
+    return message
+
+
 # Texts that are no table's, of each kind.
 NO_TABLES = (
     [],
