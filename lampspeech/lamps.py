@@ -1,5 +1,6 @@
 """The calls of Lamps. Each stands by itself: it takes numbers and lists, and gives back a list."""
 
+NOT_REFUSED = 0
 NOT_GRANTED = -1
 TOO_LONG = -2
 NO_SUCH = -4
@@ -9,6 +10,7 @@ MOST_TABLE_BYTES = 65536
 MOST_LETTERS = 64
 MOST_SIGNS = 8
 MOST_MESSAGE_BYTES = 1024
+MOST_TIMES = 16385
 GREATEST_UNIT = 134217728
 
 LEAST_LETTER = 33
@@ -28,6 +30,10 @@ LONG_LIGHT = 3
 SIGN_DARK = 1
 LETTER_DARK = 3
 WORD_DARK = 7
+LIGHT_COUNTS = (1, 3)
+DARK_COUNTS = (1, 3, 7)
+NO_COUNT = 0
+NO_LETTER = 0
 
 
 def split_lines(t):
@@ -185,3 +191,132 @@ def send(unit, t, s):
         return [NOT_GRANTED]
     counts = sent_counts(table, s)
     return [len(counts)] + [count * unit for count in counts]
+
+
+def times_refusal(t, times):
+    """The number that refuses these times, or the text t of a table to read them by; 0 if none does."""
+    judged = judge(t)[0]
+    if judged < 0:
+        return judged
+    if len(times) % 2 == 0 or len(times) > MOST_TIMES or 0 in times:
+        return NOT_GRANTED
+    return NOT_REFUSED
+
+
+def share_a_unit(one, one_count, other, other_count):
+    """Whether by some unit one time is one_count units, and the other other_count, both within a fifth."""
+    # A time d is k units by each unit from 5 d / 6 k to 5 d / 4 k, so two times have a unit in common
+    # just if neither's d / k is more than 3 / 2 of the other's.
+    one_share = one * other_count
+    other_share = other * one_count
+    return 2 * one_share <= 3 * other_share and 2 * other_share <= 3 * one_share
+
+
+def fitting_count(first, first_count, time, choices):
+    """Which of the choices that time can have as its units if the first light has first_count; 0 if none."""
+    for count in choices:
+        # At most one fits: what fits is no more than 9 / 4 apart, and two choices are 7 / 3 apart or more.
+        if share_a_unit(first, first_count, time, count):
+            return count
+    return NO_COUNT
+
+
+def read_counts(times, first_count):
+    """How many units each time has if the first has first_count; an empty list if no unit makes them so."""
+    counts = []
+    for place in range(len(times)):
+        choices = LIGHT_COUNTS if place % 2 == 0 else DARK_COUNTS
+        count = fitting_count(times[0], first_count, times[place], choices)
+        if count == NO_COUNT:
+            return []
+        counts.append(count)
+    return counts
+
+
+def lowest_terms(above, below):
+    """The fraction above / below in lowest terms, as a list of two."""
+    divisor = above
+    rest = below
+    while rest > 0:
+        former = rest
+        rest = divisor % rest
+        divisor = former
+    return [above // divisor, below // divisor]
+
+
+def unit_bounds(times, counts):
+    """The least and the greatest unit by which each time has its count of units; an empty list if none is."""
+    high = 0
+    low = 0
+    for place in range(1, len(times)):
+        if times[place] * counts[high] > times[high] * counts[place]:
+            high = place
+        if times[place] * counts[low] < times[low] * counts[place]:
+            low = place
+    if not share_a_unit(times[high], counts[high], times[low], counts[low]):
+        return []
+    return lowest_terms(5 * times[high], 6 * counts[high]) + lowest_terms(5 * times[low], 4 * counts[low])
+
+
+def letters_by_lights(t):
+    """For the lights of each pattern of the table whose text is t, its letter."""
+    table = table_lights(t)
+    letters = {}
+    for letter in table:
+        letters[tuple(table[letter])] = letter
+    return letters
+
+
+def told_message(letters, counts):
+    """The message whose lights and darks have so many units; an empty list if there is none."""
+    # As if a letter followed: so the last one ends like all others.
+    ended = counts + [LETTER_DARK]
+    message = []
+    lights = []
+    for place in range(0, len(ended), 2):
+        lights.append(ended[place])
+        dark = ended[place + 1]
+        if dark == SIGN_DARK:
+            continue
+        letter = letters.get(tuple(lights), NO_LETTER)
+        if letter == NO_LETTER:
+            return []
+        message.append(letter)
+        lights = []
+        if dark == WORD_DARK:
+            message.append(BLANK)
+    if len(message) > MOST_MESSAGE_BYTES:
+        return []
+    return message
+
+
+def read_times(letters, times, first_count):
+    """The reading whose first light has first_count units, as nth tells it; an empty list if there is none."""
+    counts = read_counts(times, first_count)
+    if len(counts) == 0:
+        return []
+    bounds = unit_bounds(times, counts)
+    message = told_message(letters, counts)
+    if len(bounds) == 0 or len(message) == 0:
+        return []
+    return [len(message)] + bounds + message
+
+
+def readings(t, times):
+    """All readings of the times by the table whose text is t, each as nth tells it."""
+    letters = letters_by_lights(t)
+    found = []
+    # Greater units stand first, and by these the first light has fewer of them.
+    for first_count in LIGHT_COUNTS:
+        reading = read_times(letters, times, first_count)
+        if len(reading) > 0:
+            found.append(reading)
+    return found
+
+
+def many(t, times):
+    """How many readings the times have by the table whose text is t; or -2, -6 or -1."""
+    refusal = times_refusal(t, times)
+    if refusal < 0:
+        return [refusal]
+    return [len(readings(t, times))]

@@ -1,6 +1,10 @@
-"""What the tests share: texts of tables, and a check that a call leaves alone what it is handed."""
+"""What the tests share: tables, messages and hands, readings found otherwise, and a check of what is handed in."""
 
 import itertools
+import math
+from fractions import Fraction
+
+GREATEST_TIME = 4294967295
 
 
 def text(*lines):
@@ -35,6 +39,75 @@ def drawn_message(draw, t, count):
         inner = 0 < place < count - 1 and message[-1] != 32
         message.append(32 if inner and draw.random() < 0.2 else draw.choice(letters))
     return message
+
+
+def sent_units(t, s):
+    """How many units each light and dark of the message has, told by painting it with # and blanks."""
+    lights = {
+        line[0]: " ".join({".": "#", "-": "###"}[sign] for sign in line[2:])
+        for line in bytes(t).decode("ascii").splitlines()
+    }
+    words = bytes(s).decode("ascii").split(" ")
+    painted = (" " * 7).join("   ".join(lights[letter] for letter in word) for word in words)
+    return [len(list(row)) for sign, row in itertools.groupby(painted)]
+
+
+def hand_bounds(unit, count):
+    """The least and the greatest time that a hand with this unit sends for so many units."""
+    return math.ceil(Fraction(4, 5) * count * unit), min(math.floor(Fraction(6, 5) * count * unit), GREATEST_TIME)
+
+
+def can_send(unit, counts):
+    return all(low <= high for low, high in (hand_bounds(unit, count) for count in set(counts)))
+
+
+def drawn_unit(draw, counts):
+    """A unit, whole or not, by which a hand can send times of so many units."""
+    while True:
+        below = draw.choice((1, 2, 3, 7, 60, draw.randint(1, 10**6)))
+        unit = Fraction(draw.randint(below // 2 + 1, draw.choice((3, 100, 10**6, 10**9)) * below), below)
+        if can_send(unit, counts):
+            return unit
+
+
+def drawn_times(draw, unit, counts):
+    """What an uneven hand with this unit may send for so many units; at times as unevenly as it may."""
+    times = []
+    for count in counts:
+        low, high = hand_bounds(unit, count)
+        times.append(draw.choice((low, high, draw.randint(low, high))))
+    return times
+
+
+def units_otherwise(unit, times):
+    """Which of 1, 3 and 7 units of a hand with this unit each time is, or 0."""
+    return [
+        ([count for count in (1, 3, 7) if Fraction(4, 5) * count * unit <= time <= Fraction(6, 5) * count * unit] + [0])[0]
+        for time in times
+    ]
+
+
+def message_otherwise(t, units):
+    """The message that has lights and darks of so many units, or None."""
+    letters = {line[2:]: line[0] for line in bytes(t).decode("ascii").splitlines()}
+    lights = {1: ".", 3: "-"}
+    darks = {1: "", 3: "/", 7: "/ /"}
+    if not all(unit in lights for unit in units[::2]) or not all(unit in darks for unit in units[1::2]):
+        return None
+    row = "".join((darks if place % 2 else lights)[unit] for place, unit in enumerate(units))
+    told = [" " if signs == " " else letters.get(signs, "") for signs in row.split("/")]
+    return list("".join(told).encode("ascii")) if all(told) and len(told) <= 1024 else None
+
+
+def readings_otherwise(t, times):
+    """All readings with their least and greatest units, by trying each unit at which something may begin or end."""
+    tried = {Fraction(5 * time, part * count) for time in times for part in (4, 6) for count in (1, 3, 7)}
+    found = {}
+    for unit in sorted(tried, reverse=True):
+        message = message_otherwise(t, units_otherwise(unit, times))
+        if message is not None:
+            found.setdefault(tuple(message), []).append(unit)
+    return [(list(message), fitting[-1], fitting[0]) for message, fitting in found.items()]
 
 
 # Texts that are no table's, of each kind.

@@ -4,7 +4,7 @@ import itertools
 import random
 import unittest
 
-from helper import NO_TABLES, assert_kept, drawn_message, drawn_table, table_lines, text
+from helper import NO_TABLES, assert_kept, drawn_message, drawn_table, sent_units, table_lines, text
 from lampspeech.lamps import send
 
 TABLE = text("- -....-", "1 .----", "8 ........", "9 --------", "A .-", "E .", "S ...", "T -", "e ..")
@@ -15,17 +15,9 @@ def message(words):
     return list(words.encode("ascii"))
 
 
-def painted(t, s):
-    """The message as lights (#) and darks (a blank) of one unit each."""
-    signs = {line[0]: line[2:] for line in bytes(t).decode("ascii").splitlines()}
-    lights = {letter: " ".join({".": "#", "-": "###"}[sign] for sign in row) for letter, row in signs.items()}
-    words = bytes(s).decode("ascii").split(" ")
-    return (" " * 7).join("   ".join(lights[letter] for letter in word) for word in words)
-
-
 def sent_otherwise(unit, t, s):
-    """What send must answer, told by the lengths of the lights and darks of the painted message."""
-    times = [unit * len(list(row)) for sign, row in itertools.groupby(painted(t, s))]
+    """What send must answer, told by the painted message."""
+    times = [unit * count for count in sent_units(t, s)]
     return [len(times)] + times
 
 
