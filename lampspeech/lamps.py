@@ -320,3 +320,14 @@ def many(t, times):
     if refusal < 0:
         return [refusal]
     return [len(readings(t, times))]
+
+
+def nth(i, t, times):
+    """Reading i: how many bytes it has, its least and greatest unit, its bytes; or -2, -6, -1 or -4."""
+    refusal = times_refusal(t, times)
+    if refusal < 0:
+        return [refusal]
+    found = readings(t, times)
+    if i >= len(found):
+        return [NO_SUCH]
+    return found[i]
