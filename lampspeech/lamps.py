@@ -12,6 +12,7 @@ MOST_SIGNS = 8
 MOST_MESSAGE_BYTES = 1024
 MOST_TIMES = 16385
 GREATEST_UNIT = 134217728
+GREATEST_UNIT_PART = 4294967295
 
 LEAST_LETTER = 33
 GREATEST_LETTER = 126
@@ -222,7 +223,7 @@ def fitting_count(first, first_count, time, choices):
 
 
 def read_counts(times, first_count):
-    """How many units each time has if the first has first_count; an empty list if no unit makes them so."""
+    """How many units each time can have beside a first light of first_count; an empty list if one can have none."""
     counts = []
     for place in range(len(times)):
         choices = LIGHT_COUNTS if place % 2 == 0 else DARK_COUNTS
@@ -331,3 +332,23 @@ def nth(i, t, times):
     if i >= len(found):
         return [NO_SUCH]
     return found[i]
+
+
+def is_unit(p, q):
+    """Whether p / q is a unit that units tells times by."""
+    return p > 0 and q > 0 and p <= GREATEST_UNIT_PART and q <= GREATEST_UNIT_PART
+
+
+def count_by_unit(p, q, time):
+    """Which of 1, 3 and 7 units of p / q that time is within a fifth; 0 if none."""
+    for count in DARK_COUNTS:
+        if 4 * count * p <= 5 * time * q and 5 * time * q <= 6 * count * p:
+            return count
+    return NO_COUNT
+
+
+def units(p, q, times):
+    """0, then for each time 1, 3 or 7 if it is so many units of p / q within a fifth, else 0."""
+    if not is_unit(p, q):
+        return [0] + [NO_COUNT for time in times]
+    return [0] + [count_by_unit(p, q, time) for time in times]

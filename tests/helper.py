@@ -81,10 +81,8 @@ def drawn_times(draw, unit, counts):
 
 def units_otherwise(unit, times):
     """Which of 1, 3 and 7 units of a hand with this unit each time is, or 0."""
-    return [
-        ([count for count in (1, 3, 7) if Fraction(4, 5) * count * unit <= time <= Fraction(6, 5) * count * unit] + [0])[0]
-        for time in times
-    ]
+    bounds = [(count, Fraction(4, 5) * count * unit, Fraction(6, 5) * count * unit) for count in (1, 3, 7)]
+    return [sum(count for count, low, high in bounds if low <= time <= high) for time in times]
 
 
 def message_otherwise(t, units):

@@ -35,7 +35,7 @@ def sent(words, unit):
 
 class ShortAndLong(unittest.TestCase):
     def test_exact_hands(self):
-        for words in ("A", "N", "o", "ET", "TE", "E T", "T E", "AN", "SOS".replace("O", "o"), "TEN MEN IN A TENT", "EA"):
+        for words in ("A", "N", "o", "ET", "TE", "E T", "T E", "AN", "SoS", "TEN MEN IN A TENT", "EA"):
             for unit in (1, 2, 5, 60, 134217728):
                 self.assertEqual(many(TABLE, sent(words, unit)), [1], (words, unit))
 
@@ -149,7 +149,9 @@ class WithinAFifth(unittest.TestCase):
             held = [4 * m, 5 * m, 6 * m]
             self.assertEqual(many(t, held), [1])
             for count in (1, 3, 7):
-                for time, right in ((4 * count * m, 1), (6 * count * m, 1), (4 * count * m - 1, 0), (6 * count * m + 1, 0)):
+                low = 4 * count * m
+                high = 6 * count * m
+                for time, right in ((low, 1), (high, 1), (low - 1, 0), (high + 1, 0)):
                     if count == 1:
                         self.assertEqual(many(text("A ..."), held + [time, 5 * m]), [right], (m, time))
                     self.assertEqual(many(t + text("a ..."), held + [time, 5 * m]), [right], (m, count, time))

@@ -1,14 +1,31 @@
 """The package as a whole: what it may hold, by the rules of its language that a reading of its files can see."""
 
 import ast
+import inspect
 import pathlib
 import unittest
+
+from lampspeech import lamps
 
 PACKAGE = pathlib.Path(__file__).resolve().parent.parent / "lampspeech"
 
 
 def sources():
     return {path.name: path.read_text("utf-8") for path in sorted(PACKAGE.glob("*.py"))}
+
+
+class Interface(unittest.TestCase):
+    def test_names_and_arguments(self):
+        asked = {
+            "judge": ["t"],
+            "pattern": ["c", "t"],
+            "send": ["unit", "t", "s"],
+            "many": ["t", "times"],
+            "nth": ["i", "t", "times"],
+            "units": ["p", "q", "times"],
+        }
+        for name, arguments in asked.items():
+            self.assertEqual(list(inspect.signature(getattr(lamps, name)).parameters), arguments)
 
 
 class Package(unittest.TestCase):
@@ -23,7 +40,8 @@ class Package(unittest.TestCase):
             lines = source.split("\n")
             self.assertLessEqual(len(lines), 400, name)
             self.assertLessEqual(max(map(len, lines)), 120, name)
-            self.assertLessEqual({sign for line in lines for sign in line}, {chr(code) for code in range(32, 127)}, name)
+            plain = {chr(code) for code in range(32, 127)}
+            self.assertLessEqual({sign for line in lines for sign in line}, plain, name)
 
     def test_functions_are_small(self):
         for name, source in sources().items():
